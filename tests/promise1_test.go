@@ -4,6 +4,7 @@ import (
 	"bytes"
 	"fmt"
 	"math"
+	"slices"
 	"strings"
 	"sync"
 	"testing"
@@ -21,7 +22,51 @@ func bytesCalls(b []byte) []call {
 	return []call{
 		{fmt.Sprintf("Hash of %d bytes", len(b)), func() string { return impl.Hash(b) }},
 		{fmt.Sprintf("Check32 of %d bytes", len(b)), func() string { return fmt.Sprint(impl.Check32(b)) }},
+		{fmt.Sprintf("ReadFrames of %d bytes", len(b)), func() string {
+			list, n, code := impl.ReadFrames(b)
+			return fmt.Sprintf("%q %d %d", list, n, code)
+		}},
+		{fmt.Sprintf("ReadFields of %d bytes", len(b)), func() string {
+			list, code := impl.ReadFields(b)
+			return fmt.Sprintf("%q %d", list, code)
+		}},
+		{fmt.Sprintf("ReadNumbers of %d bytes", len(b)), func() string {
+			list, code := impl.ReadNumbers(b)
+			return fmt.Sprint(list, code)
+		}},
 	}
+}
+
+func listCalls(texts []string, numbers []int) []call {
+	return []call{
+		{fmt.Sprintf("FieldsBytes of %d fields", len(texts)), func() string {
+			b, code := impl.FieldsBytes(texts)
+			return fmt.Sprintf("%q %d", b, code)
+		}},
+		{fmt.Sprintf("NumbersBytes of %d numbers", len(numbers)), func() string {
+			b, code := impl.NumbersBytes(numbers)
+			return fmt.Sprintf("%q %d", b, code)
+		}},
+	}
+}
+
+// someBytes are such as each of the readers takes whole, or stops at on its way.
+func someBytes() [][]byte {
+	var list [][]byte
+	for _, n := range []int{0, 1, 54, 55, 56, 57, 63, 64, 65, 119, 120, 127, 128, impl.MaxText - 1, impl.MaxText, impl.MaxText + 1} {
+		list = append(list, sampleBytes(n))
+	}
+	frames := append(frameOf("one"), frameOf("another")...)
+	fields := fieldsOf([]string{"one", "", "another"})
+	return append(list, nil, frames, frames[:len(frames)-1], fields, fields[:len(fields)-1], append(fields, 0))
+}
+
+func someTextLists() [][]string {
+	return [][]string{nil, {""}, {"one", "", "another"}, make([]string, 60), make([]string, 61), fullFields(0), fullFields(1), make([]string, impl.MaxList+1)}
+}
+
+func someNumberLists() [][]int {
+	return [][]int{nil, {-1}, {0, 16777214}, {5, -2}, {math.MaxInt}, make([]int, impl.MaxList), make([]int, impl.MaxList+1)}
 }
 
 func textCalls(text string) []call {
@@ -35,17 +80,25 @@ func textCalls(text string) []call {
 		{named("HashText"), coded(impl.HashText)},
 		{named("ReadHash"), coded(impl.ReadHash)},
 		{named("HashBits"), coded(impl.HashBits)},
+		{named("FrameBytes"), func() string { b, code := impl.FrameBytes(text); return fmt.Sprintf("%q %d", b, code) }},
+		{named("Hmac by"), coded(func(key string) (string, int) { return impl.Hmac(key, "message") })},
+		{named("Hmac of"), coded(func(msg string) (string, int) { return impl.Hmac("key", msg) })},
 	}
 }
 
 func allCalls() []call {
 	var list []call
-	for _, n := range []int{0, 1, 55, 56, 63, 64, 65, 119, 120, 127, 128, impl.MaxText - 1, impl.MaxText, impl.MaxText + 1} {
-		list = append(list, bytesCalls(sampleBytes(n))...)
-		list = append(list, textCalls(string(sampleBytes(n)))...)
-		list = append(list, textCalls(strings.Repeat("a", n))...)
+	for _, b := range someBytes() {
+		list = append(list, bytesCalls(b)...)
+		list = append(list, textCalls(string(b))...)
+		list = append(list, textCalls(strings.Repeat("a", len(b)))...)
 	}
-	list = append(list, bytesCalls(nil)...)
+	for _, texts := range someTextLists() {
+		list = append(list, listCalls(texts, nil)...)
+	}
+	for _, numbers := range someNumberLists() {
+		list = append(list, listCalls(nil, numbers)...)
+	}
 	for _, text := range []string{"ok", "view", "A", "9", strings.Repeat("x", 40), strings.Repeat("x", 41), impl.Hash(nil)} {
 		list = append(list, textCalls(text)...)
 	}
@@ -88,11 +141,11 @@ func TestAnswersDoNotHangOnCallsBeside(t *testing.T) {
 }
 
 func TestBytesAreNotChangedNorWhatStandsBehindThem(t *testing.T) {
-	for _, n := range []int{0, 1, 54, 55, 56, 57, 63, 64, 65, 119, 120, 128, impl.MaxText, impl.MaxText + 1} {
-		room := bytes.Repeat([]byte{0xa5}, n+200)
-		copy(room, sampleBytes(n))
+	for _, b := range someBytes() {
+		room := bytes.Repeat([]byte{0xa5}, len(b)+200)
+		copy(room, b)
 		was := bytes.Clone(room)
-		for _, c := range bytesCalls(room[:n]) {
+		for _, c := range bytesCalls(room[:len(b)]) {
 			c.do()
 			if !bytes.Equal(room, was) {
 				t.Error(c.name, "writes into its argument, or behind it")
@@ -101,21 +154,41 @@ func TestBytesAreNotChangedNorWhatStandsBehindThem(t *testing.T) {
 	}
 }
 
-func TestAlikeBytesHaveAlikeAnswers(t *testing.T) {
-	for _, n := range []int{0, 1, 55, 56, 64, 120, impl.MaxText, impl.MaxText + 1} {
-		tight := sampleBytes(n)
-		roomy := append(make([]byte, 0, n+300), tight...)
-		wantAlike(t, tight, roomy)
+func TestListsAreNotChangedNorWhatStandsBehindThem(t *testing.T) {
+	for _, texts := range someTextLists() {
+		room := append(slices.Clone(texts), slices.Repeat([]string{"behind"}, 5)...)
+		was := slices.Clone(room)
+		for _, c := range listCalls(room[:len(texts)], nil) {
+			if c.do(); !slices.Equal(room, was) {
+				t.Error(c.name, "writes into its argument, or behind it")
+			}
+		}
 	}
-	wantAlike(t, nil, []byte{})
+	for _, numbers := range someNumberLists() {
+		room := append(slices.Clone(numbers), 7, 7, 7)
+		was := slices.Clone(room)
+		for _, c := range listCalls(nil, room[:len(numbers)]) {
+			if c.do(); !slices.Equal(room, was) {
+				t.Error(c.name, "writes into its argument, or behind it")
+			}
+		}
+	}
 }
 
-func wantAlike(t *testing.T, a, b []byte) {
+func TestAlikeBytesHaveAlikeAnswers(t *testing.T) {
+	for _, tight := range someBytes() {
+		roomy := append(make([]byte, 0, len(tight)+300), tight...)
+		wantAlike(t, bytesCalls(tight), bytesCalls(roomy))
+	}
+	wantAlike(t, bytesCalls(nil), bytesCalls([]byte{}))
+	wantAlike(t, listCalls(nil, nil), listCalls([]string{}, []int{}))
+}
+
+func wantAlike(t *testing.T, one, other []call) {
 	t.Helper()
-	one, other := bytesCalls(a), bytesCalls(b)
 	for i := range one {
 		if one[i].do() != other[i].do() {
-			t.Error(one[i].name, "answers otherwise of alike bytes")
+			t.Error(one[i].name, "answers otherwise of alike arguments")
 		}
 	}
 }
