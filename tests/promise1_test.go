@@ -86,6 +86,48 @@ func textCalls(text string) []call {
 	}
 }
 
+func parserCalls(p impl.Parser, b []byte) []call {
+	named := func(name string) string { return fmt.Sprintf("%s(%.60q, %.20q)", name, fmt.Sprintf("%+v", p), b) }
+	list := []call{
+		{named("ParserOK"), func() string { return fmt.Sprint(impl.ParserOK(p)) }},
+		{named("ParseBytes"), func() string { return fmt.Sprintln(impl.ParseBytes(p, b)) }},
+	}
+	for _, n := range []int{-1, 0, 10, 27, '5', ';', '?', 'A', 0x82, 0xe2, 255, 256} {
+		list = append(list, call{named(fmt.Sprint("ParseByte of ", n)), func() string { return fmt.Sprintln(impl.ParseByte(p, n)) }})
+	}
+	return list
+}
+
+func actionCalls(a impl.Action) []call {
+	named := func(name string) string { return fmt.Sprintf("%s(%.60q)", name, fmt.Sprintf("%+v", a)) }
+	list := []call{
+		{named("ActionOK"), func() string { return fmt.Sprint(impl.ActionOK(a)) }},
+		{named("ActionText"), func() string { return fmt.Sprintln(impl.ActionText(a)) }},
+	}
+	for _, i := range []int{math.MinInt, -1, 0, 7, 8, math.MaxInt} {
+		for _, other := range []int{-2, -1, 9999, 10000} {
+			list = append(list, call{named(fmt.Sprint("ArgOf ", i, other)), func() string { return fmt.Sprintln(impl.ArgOf(a, i, other)) }})
+		}
+	}
+	return list
+}
+
+// terminalCalls are of right parsers and actions, and of such as are not.
+func terminalCalls() []call {
+	var list []call
+	for _, p := range append(someParsers(), wrongParsers()...) {
+		for _, text := range []string{"", "a\n\xe2\x82", "5;6\a\x1b\\A\x1b[?7;8", "\x82\x82\x82"} {
+			list = append(list, parserCalls(p, []byte(text))...)
+		}
+	}
+	for i, a := range append(someActions(), wrongActions()...) {
+		if i%7 == 0 || a.Kind != impl.AcCsi {
+			list = append(list, actionCalls(a)...)
+		}
+	}
+	return list
+}
+
 func allCalls() []call {
 	var list []call
 	for _, b := range someBytes() {
@@ -93,6 +135,10 @@ func allCalls() []call {
 		list = append(list, textCalls(string(b))...)
 		list = append(list, textCalls(strings.Repeat("a", len(b)))...)
 	}
+	for _, b := range someBytes() {
+		list = append(list, parserCalls(impl.Parser{}, b)...)
+	}
+	list = append(list, terminalCalls()...)
 	for _, texts := range someTextLists() {
 		list = append(list, listCalls(texts, nil)...)
 	}
@@ -145,7 +191,8 @@ func TestBytesAreNotChangedNorWhatStandsBehindThem(t *testing.T) {
 		room := bytes.Repeat([]byte{0xa5}, len(b)+200)
 		copy(room, b)
 		was := bytes.Clone(room)
-		for _, c := range bytesCalls(room[:len(b)]) {
+		calls := append(bytesCalls(room[:len(b)]), parserCalls(impl.Parser{}, room[:len(b)])...)
+		for _, c := range calls {
 			c.do()
 			if !bytes.Equal(room, was) {
 				t.Error(c.name, "writes into its argument, or behind it")
@@ -179,9 +226,22 @@ func TestAlikeBytesHaveAlikeAnswers(t *testing.T) {
 	for _, tight := range someBytes() {
 		roomy := append(make([]byte, 0, len(tight)+300), tight...)
 		wantAlike(t, bytesCalls(tight), bytesCalls(roomy))
+		wantAlike(t, parserCalls(impl.Parser{}, tight), parserCalls(impl.Parser{}, roomy))
 	}
 	wantAlike(t, bytesCalls(nil), bytesCalls([]byte{}))
 	wantAlike(t, listCalls(nil, nil), listCalls([]string{}, []int{}))
+}
+
+func TestAlikeParsersAndActionsHaveAlikeAnswers(t *testing.T) {
+	in := []byte("1;2A\x1b[3;4")
+	for _, args := range someArgs() {
+		_, roomy := roomyArgs(args)
+		one, other := impl.Parser{State: impl.PsCsi, Args: args}, impl.Parser{State: impl.PsCsi, Args: roomy}
+		wantAlike(t, parserCalls(one, in), parserCalls(other, in))
+		wantAlike(t, actionCalls(csiOf('A', args...)), actionCalls(csiOf('A', roomy...)))
+	}
+	wantAlike(t, parserCalls(impl.Parser{}, nil), parserCalls(impl.Parser{Args: []int{}}, []byte{}))
+	wantAlike(t, actionCalls(printOf('a')), actionCalls(withArgs(printOf('a'), false, []int{}...)))
 }
 
 func wantAlike(t *testing.T, one, other []call) {
