@@ -34,6 +34,7 @@ func bytesCalls(b []byte) []call {
 			list, code := impl.ReadNumbers(b)
 			return fmt.Sprint(list, code)
 		}},
+		{fmt.Sprintf("ReadScreen of %d bytes", len(b)), func() string { return fmt.Sprintln(impl.ReadScreen(b)) }},
 	}
 }
 
@@ -128,8 +129,54 @@ func terminalCalls() []call {
 	return list
 }
 
-func allCalls() []call {
+func screenCalls(s impl.Screen) []call {
+	named := func(name string) string { return fmt.Sprintf("%s(%.80s)", name, screenShown(s)) }
+	list := []call{
+		{named("ScreenOK"), func() string { return fmt.Sprint(impl.ScreenOK(s)) }},
+		{named("ScreenBytes"), func() string { return fmt.Sprintln(impl.ScreenBytes(s)) }},
+		{named("SameScreen with itself"), func() string { return fmt.Sprintln(impl.SameScreen(s, s)) }},
+		{named("SameScreen with none"), func() string { return fmt.Sprintln(impl.SameScreen(s, impl.Screen{})) }},
+	}
+	for _, y := range []int{math.MinInt, -1, 0, 1, 9, 10, math.MaxInt} {
+		list = append(list,
+			call{named(fmt.Sprint("RowText ", y)), func() string { return fmt.Sprintln(impl.RowText(s, y)) }},
+			call{named(fmt.Sprint("RowCells ", y)), func() string { return fmt.Sprintln(impl.RowCells(s, y)) }},
+			call{named(fmt.Sprint("ResizeScreen ", y)), func() string { return fmt.Sprintln(impl.ResizeScreen(s, y, 5)) }},
+			call{named(fmt.Sprint("ResizeScreen rows ", y)), func() string { return fmt.Sprintln(impl.ResizeScreen(s, 5, y)) }})
+	}
+	for _, a := range []impl.Action{{}, printOf('x'), printOf(127), controlOf(9), escapeOf('c'), escapeOf('M'), csiOf('S', 9999), csiOf('J', 1), csiOf('r', 2, 1), csiOf('m'), oscOf("t")} {
+		list = append(list, call{named(fmt.Sprintf("ApplyAction %+v", a)), func() string { return fmt.Sprintln(impl.ApplyAction(s, a)) }})
+	}
+	for _, in := range []string{"", "ab\n\n\n\x1b[2;3r\x1b[9T", "\x1b[5;\xe2"} {
+		list = append(list, call{named(fmt.Sprintf("FeedScreen %q", in)), func() string { return fmt.Sprintln(impl.FeedScreen(s, impl.Parser{}, []byte(in))) }})
+	}
+	return list
+}
+
+// screenAndSizeCalls are of right screens, and of such as are not, and of sizes and bytes that make them.
+func screenAndSizeCalls(t *testing.T) []call {
 	var list []call
+	for i, s := range append(rightScreens(t), wrongScreens(t)...) {
+		if i%3 == 0 {
+			list = append(list, screenCalls(s)...)
+		}
+	}
+	for _, s := range someScreens(t) {
+		b := modelScreenBytes(s)
+		for _, piece := range [][]byte{b, b[1:], b[:len(b)-1]} {
+			list = append(list, bytesCalls(piece)...)
+		}
+	}
+	for _, n := range []int{math.MinInt, -1, 1, 2, 10, 11, 24, 25, math.MaxInt} {
+		list = append(list,
+			call{fmt.Sprintf("NewScreen(%d, 5)", n), func() string { return fmt.Sprintln(impl.NewScreen(n, 5)) }},
+			call{fmt.Sprintf("NewScreen(5, %d)", n), func() string { return fmt.Sprintln(impl.NewScreen(5, n)) }})
+	}
+	return list
+}
+
+func allCalls(t *testing.T) []call {
+	list := screenAndSizeCalls(t)
 	for _, b := range someBytes() {
 		list = append(list, bytesCalls(b)...)
 		list = append(list, textCalls(string(b))...)
@@ -155,7 +202,7 @@ func allCalls() []call {
 }
 
 func TestAnswersDoNotHangOnCallsAhead(t *testing.T) {
-	calls := allCalls()
+	calls := allCalls(t)
 	first := make([]string, len(calls))
 	for i, c := range calls {
 		first[i] = c.do()
@@ -168,7 +215,7 @@ func TestAnswersDoNotHangOnCallsAhead(t *testing.T) {
 }
 
 func TestAnswersDoNotHangOnCallsBeside(t *testing.T) {
-	calls := allCalls()
+	calls := allCalls(t)
 	alone := make([]string, len(calls))
 	for i, c := range calls {
 		alone[i] = c.do()
@@ -242,6 +289,19 @@ func TestAlikeParsersAndActionsHaveAlikeAnswers(t *testing.T) {
 	}
 	wantAlike(t, parserCalls(impl.Parser{}, nil), parserCalls(impl.Parser{Args: []int{}}, []byte{}))
 	wantAlike(t, actionCalls(printOf('a')), actionCalls(withArgs(printOf('a'), false, []int{}...)))
+}
+
+func TestAlikeScreensHaveAlikeAnswers(t *testing.T) {
+	for _, s := range rightScreens(t) {
+		roomy, _ := roomyScreen(s)
+		wantAlike(t, screenCalls(s), screenCalls(roomy))
+		if len(s.History) == 0 {
+			none, empty := s, s
+			none.History, empty.History = nil, []string{}
+			wantAlike(t, screenCalls(none), screenCalls(empty))
+		}
+	}
+	wantAlike(t, screenCalls(impl.Screen{}), screenCalls(impl.Screen{Cells: []impl.Cell{}, History: []string{}}))
 }
 
 func wantAlike(t *testing.T, one, other []call) {
