@@ -175,8 +175,50 @@ func screenAndSizeCalls(t *testing.T) []call {
 	return list
 }
 
+func layoutCalls(l impl.Layout, w, h int) []call {
+	named := func(name string) string {
+		return fmt.Sprintf("%s(%.80s, %d, %d)", name, fmt.Sprintf("%+v", l.Parts), w, h)
+	}
+	list := []call{
+		{named("LayoutOK"), func() string { return fmt.Sprint(impl.LayoutOK(l, w, h)) }},
+		{named("LayoutAreas"), func() string { return fmt.Sprintln(impl.LayoutAreas(l, w, h)) }},
+		{named("LayoutText"), func() string { return fmt.Sprintln(impl.LayoutText(l, w, h)) }},
+	}
+	for _, n := range []int{math.MinInt, -101, -1, 0, 1, 7, 24, 100, 1001, math.MaxInt} {
+		list = append(list,
+			call{named(fmt.Sprint("SplitArea ", n)), func() string { return fmt.Sprintln(impl.SplitArea(l, w, h, n, 50, false)) }},
+			call{named(fmt.Sprint("SplitArea fresh ", n)), func() string { return fmt.Sprintln(impl.SplitArea(l, w, h, 7, n, true)) }},
+			call{named(fmt.Sprint("KillArea ", n)), func() string { return fmt.Sprintln(impl.KillArea(l, w, h, n)) }},
+			call{named(fmt.Sprint("MoveSplit ", n)), func() string { return fmt.Sprintln(impl.MoveSplit(l, w, h, n, 2)) }},
+			call{named(fmt.Sprint("MoveSplit by ", n)), func() string { return fmt.Sprintln(impl.MoveSplit(l, w, h, 7, n)) }},
+			call{named(fmt.Sprint("FitLayout ", n)), func() string { return fmt.Sprintln(impl.FitLayout(l, w, h, n, 6)) }},
+			call{named(fmt.Sprint("FitLayout rows ", n)), func() string { return fmt.Sprintln(impl.FitLayout(l, w, h, 14, n)) }})
+	}
+	return list
+}
+
+// allLayoutCalls are of layouts that are right, of such as are not, and of sizes for which they are not.
+func allLayoutCalls() []call {
+	var list []call
+	for i, a := range laidOut(6) {
+		if i < 50 || i%61 == 0 {
+			list = append(list, layoutCalls(a.l, a.w, a.h)...)
+			list = append(list, layoutCalls(a.l, a.w-1, math.MaxInt)...)
+		}
+	}
+	for i, l := range wrongLayouts() {
+		if i%5 == 0 {
+			list = append(list, layoutCalls(l, 24, 10)...)
+		}
+	}
+	for _, n := range []int{math.MinInt, -1, 0, 1, 1000, 1001, math.MaxInt} {
+		list = append(list, call{fmt.Sprintf("OneLayout(%d)", n), func() string { return fmt.Sprintln(impl.OneLayout(n)) }})
+	}
+	return list
+}
+
 func allCalls(t *testing.T) []call {
-	list := screenAndSizeCalls(t)
+	list := append(screenAndSizeCalls(t), allLayoutCalls()...)
 	for _, b := range someBytes() {
 		list = append(list, bytesCalls(b)...)
 		list = append(list, textCalls(string(b))...)
@@ -302,6 +344,20 @@ func TestAlikeScreensHaveAlikeAnswers(t *testing.T) {
 		}
 	}
 	wantAlike(t, screenCalls(impl.Screen{}), screenCalls(impl.Screen{Cells: []impl.Cell{}, History: []string{}}))
+}
+
+func TestAlikeLayoutsHaveAlikeAnswers(t *testing.T) {
+	for i, a := range laidOut(6) {
+		if i < 50 || i%31 == 0 {
+			roomy, _ := roomyLayout(a.l)
+			wantAlike(t, layoutCalls(a.l, a.w, a.h), layoutCalls(roomy, a.w, a.h))
+		}
+	}
+	for _, l := range wrongLayouts() {
+		roomy, _ := roomyLayout(l)
+		wantAlike(t, layoutCalls(l, 24, 10), layoutCalls(roomy, 24, 10))
+	}
+	wantAlike(t, layoutCalls(impl.Layout{}, 5, 5), layoutCalls(impl.Layout{Parts: []impl.Part{}}, 5, 5))
 }
 
 func wantAlike(t *testing.T, one, other []call) {
