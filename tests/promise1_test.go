@@ -35,6 +35,8 @@ func bytesCalls(b []byte) []call {
 			return fmt.Sprint(list, code)
 		}},
 		{fmt.Sprintf("ReadScreen of %d bytes", len(b)), func() string { return fmt.Sprintln(impl.ReadScreen(b)) }},
+		{fmt.Sprintf("ReadCommand of %d bytes", len(b)), func() string { return fmt.Sprintln(impl.ReadCommand(b)) }},
+		{fmt.Sprintf("ReadMux of %d bytes", len(b)), func() string { return fmt.Sprintln(impl.ReadMux(b)) }},
 	}
 }
 
@@ -217,8 +219,85 @@ func allLayoutCalls() []call {
 	return list
 }
 
+func muxCalls(m impl.Mux) []call {
+	named := func(name string) string { return fmt.Sprintf("%s(%.80s)", name, muxShown(m)) }
+	list := []call{
+		{named("MuxOK"), func() string { return fmt.Sprint(impl.MuxOK(m)) }},
+		{named("MuxBytes"), func() string { return fmt.Sprintln(impl.MuxBytes(m)) }},
+		{named("SameMux with itself"), func() string { return fmt.Sprintln(impl.SameMux(m, m)) }},
+		{named("SameMux with none"), func() string { return fmt.Sprintln(impl.SameMux(m, impl.Mux{})) }},
+	}
+	for _, id := range []int{math.MinInt, -1, 0, 1, 5, 1000, math.MaxInt} {
+		list = append(list, call{named(fmt.Sprint("PaneAt ", id)), func() string { return fmt.Sprintln(impl.PaneAt(m, id)) }})
+	}
+	for _, name := range []string{"", "a", "c", "none", strings.Repeat("a", impl.MaxText+1)} {
+		list = append(list, call{named(fmt.Sprintf("RenderWindow %.9q", name)), func() string { return fmt.Sprintln(impl.RenderWindow(m, name)) }})
+	}
+	for i, c := range append(append(someCommands(), rightCommands()...), impl.Command{}) {
+		if c.Seq = 11; i%3 == 0 {
+			c.Seq = 10
+		}
+		list = append(list, call{named(fmt.Sprintf("ApplyCommand %.80s", fmt.Sprintf("%+v", c))), func() string { return fmt.Sprintln(impl.ApplyCommand(m, c)) }})
+	}
+	return list
+}
+
+func commandCalls(c impl.Command) []call {
+	named := func(name string) string { return fmt.Sprintf("%s(%.80s)", name, fmt.Sprintf("%+v", c)) }
+	return []call{
+		{named("CommandOK"), func() string { return fmt.Sprint(impl.CommandOK(c)) }},
+		{named("CommandBytes"), func() string { return fmt.Sprintln(impl.CommandBytes(c)) }},
+	}
+}
+
+func runCalls(list []impl.Command) []call {
+	var out []call
+	for _, n := range []int{math.MinInt, 1, 2, 10, 11, math.MaxInt} {
+		out = append(out, call{fmt.Sprintf("RunCommands(%d, %d) of %d", n, n, len(list)), func() string { return fmt.Sprintln(impl.RunCommands(n, n, list)) }})
+	}
+	return out
+}
+
+func someRuns() [][]impl.Command {
+	all := slices.Concat(someCommands(), rightCommands())
+	for i := range all {
+		all[i].Seq = 1 + i
+	}
+	return [][]impl.Command{nil, all, all[:5], append(slices.Clone(all), impl.Command{}), make([]impl.Command, 201), make([]impl.Command, impl.MaxList+1)}
+}
+
+// allMuxCalls are of multiplexers and commands that are right, and of such as are not.
+func allMuxCalls(t *testing.T) []call {
+	var list []call
+	for _, m := range someMuxes(t) {
+		b := modelMuxBytes(m)
+		list = append(list, slices.Concat(muxCalls(m), bytesCalls(b), bytesCalls(b[1:]))...)
+	}
+	for i, m := range wrongMuxes(t) {
+		if i%9 == 0 {
+			list = append(list, muxCalls(m)...)
+		}
+	}
+	for _, c := range rightCommands() {
+		list = append(list, commandCalls(c)...)
+		list = append(list, bytesCalls(modelCommandBytes(c))...)
+	}
+	for _, c := range otherCommands(rightCommands()[0]) {
+		list = append(list, commandCalls(c)...)
+	}
+	for _, run := range someRuns() {
+		list = append(list, runCalls(run)...)
+	}
+	for _, n := range []int{math.MinInt, -1, 1, 2, 10, 11, 24, 25, math.MaxInt} {
+		list = append(list,
+			call{fmt.Sprintf("NewMux(%d, 5)", n), func() string { return fmt.Sprintln(impl.NewMux(n, 5)) }},
+			call{fmt.Sprintf("NewMux(5, %d)", n), func() string { return fmt.Sprintln(impl.NewMux(5, n)) }})
+	}
+	return list
+}
+
 func allCalls(t *testing.T) []call {
-	list := append(screenAndSizeCalls(t), allLayoutCalls()...)
+	list := slices.Concat(screenAndSizeCalls(t), allLayoutCalls(), allMuxCalls(t))
 	for _, b := range someBytes() {
 		list = append(list, bytesCalls(b)...)
 		list = append(list, textCalls(string(b))...)
@@ -358,6 +437,25 @@ func TestAlikeLayoutsHaveAlikeAnswers(t *testing.T) {
 		wantAlike(t, layoutCalls(l, 24, 10), layoutCalls(roomy, 24, 10))
 	}
 	wantAlike(t, layoutCalls(impl.Layout{}, 5, 5), layoutCalls(impl.Layout{Parts: []impl.Part{}}, 5, 5))
+}
+
+func TestAlikeMuxesHaveAlikeAnswers(t *testing.T) {
+	for _, m := range someMuxes(t) {
+		roomy, _ := roomyMux(m)
+		wantAlike(t, muxCalls(m), muxCalls(roomy))
+	}
+	none := impl.Mux{W: 5, H: 5, Next: 1}
+	empty := impl.Mux{W: 5, H: 5, Next: 1, Windows: []impl.Window{}, Panes: []impl.Pane{}, Seens: []impl.Seen{}}
+	wantAlike(t, muxCalls(none), muxCalls(empty))
+	one, other := muxOf(t, 5, 5, "1"), muxOf(t, 5, 5, "1")
+	one.Panes[0].Parser, other.Panes[0].Parser = impl.Parser{}, impl.Parser{Args: []int{}}
+	one.Panes[0].Screen.History, other.Panes[0].Screen.History = nil, []string{}
+	wantAlike(t, muxCalls(one), muxCalls(other))
+	wantAlike(t, muxCalls(impl.Mux{}), muxCalls(impl.Mux{Windows: []impl.Window{}}))
+	wantAlike(t, runCalls(nil), runCalls([]impl.Command{}))
+	for _, run := range someRuns() {
+		wantAlike(t, runCalls(run), runCalls(append(make([]impl.Command, 0, len(run)+50), run...)))
+	}
 }
 
 func wantAlike(t *testing.T, one, other []call) {
