@@ -296,8 +296,64 @@ func allMuxCalls(t *testing.T) []call {
 	return list
 }
 
+func stateCalls(s impl.State) []call {
+	named := func(name string) string { return fmt.Sprintf("%s(%.80s)", name, stateShown(s)) }
+	list := []call{{named("StateOK"), func() string { return fmt.Sprint(impl.StateOK(s)) }}}
+	for _, other := range append(rightStates()[:12], wrongStates()[:5]...) {
+		list = append(list,
+			call{named("RecordsOf to " + stateShown(other)), func() string { return fmt.Sprintln(impl.RecordsOf(s, other)) }},
+			call{named("RecordsOf from " + stateShown(other)), func() string { return fmt.Sprintln(impl.RecordsOf(other, s)) }},
+			call{named("SameState with " + stateShown(other)), func() string { return fmt.Sprintln(impl.SameState(s, other)) }})
+	}
+	for _, record := range slices.Concat(otherRecords(), someRecords(), []string{termText(1000, 4), strings.Repeat("r", impl.MaxText+1)}) {
+		list = append(list, call{named(fmt.Sprintf("ApplyRecord %.20q", record)), func() string { return fmt.Sprintln(impl.ApplyRecord(s, record)) }})
+	}
+	return list
+}
+
+func storeCalls(s impl.Store) []call {
+	named := func(name string) string { return fmt.Sprintf("%s(%.80s)", name, storeShown(s)) }
+	list := []call{
+		{named("StoreOK"), func() string { return fmt.Sprint(impl.StoreOK(s)) }},
+		{named("SyncStore"), func() string { return fmt.Sprintln(impl.SyncStore(s)) }},
+		{named("Recover"), func() string { return fmt.Sprintln(impl.Recover(s)) }},
+	}
+	for _, keep := range []int{math.MinInt, -1, 0, 1, 20, math.MaxInt} {
+		list = append(list, call{named(fmt.Sprint("CrashStore ", keep)), func() string { return fmt.Sprintln(impl.CrashStore(s, keep)) }})
+	}
+	for _, records := range someTextLists() {
+		list = append(list, writeCalls(s, records)...)
+	}
+	return list
+}
+
+func writeCalls(s impl.Store, list []string) []call {
+	name := fmt.Sprintf("WriteRecords(%.80s) of %d", storeShown(s), len(list))
+	return []call{{name, func() string { return fmt.Sprintln(impl.WriteRecords(s, list)) }}}
+}
+
+func someStores() []impl.Store {
+	data := framesText(someRecords()...)
+	return []impl.Store{
+		{}, {Data: data}, {Data: data, Sure: len(data)}, {Data: data[:len(data)-1], Sure: 30}, {Data: data[1:]}, {Data: data + framesText("junk"), Sure: 9},
+		{Data: string(sampleBytes(100))}, {Data: string(sampleBytes(60000)), Sure: 60000},
+	}
+}
+
+// allStoreCalls are of states and stores that are right, and of such as are not.
+func allStoreCalls() []call {
+	var list []call
+	for _, s := range append(rightStates(), wrongStates()...) {
+		list = append(list, stateCalls(s)...)
+	}
+	for _, s := range append(someStores(), wrongStores()...) {
+		list = append(list, storeCalls(s)...)
+	}
+	return list
+}
+
 func allCalls(t *testing.T) []call {
-	list := slices.Concat(screenAndSizeCalls(t), allLayoutCalls(), allMuxCalls(t))
+	list := slices.Concat(screenAndSizeCalls(t), allLayoutCalls(), allMuxCalls(t), allStoreCalls())
 	for _, b := range someBytes() {
 		list = append(list, bytesCalls(b)...)
 		list = append(list, textCalls(string(b))...)
@@ -455,6 +511,21 @@ func TestAlikeMuxesHaveAlikeAnswers(t *testing.T) {
 	wantAlike(t, runCalls(nil), runCalls([]impl.Command{}))
 	for _, run := range someRuns() {
 		wantAlike(t, runCalls(run), runCalls(append(make([]impl.Command, 0, len(run)+50), run...)))
+	}
+}
+
+func TestAlikeStatesAndStoresHaveAlikeAnswers(t *testing.T) {
+	for _, s := range append(rightStates(), wrongStates()...) {
+		roomy, _ := roomyState(s)
+		wantAlike(t, stateCalls(s), stateCalls(roomy))
+	}
+	wantAlike(t, stateCalls(impl.State{Term: 3}), stateCalls(impl.State{Term: 3, Log: []impl.Entry{}}))
+	for _, s := range append(someStores(), wrongStores()...) {
+		wantAlike(t, storeCalls(s), storeCalls(impl.Store{Data: strings.Clone(s.Data), Sure: s.Sure}))
+		wantAlike(t, writeCalls(s, nil), writeCalls(s, []string{}))
+		for _, list := range append(someTextLists(), someRecords()) {
+			wantAlike(t, writeCalls(s, list), writeCalls(s, append(make([]string, 0, len(list)+50), list...)))
+		}
 	}
 }
 
