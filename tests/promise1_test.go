@@ -352,8 +352,54 @@ func allStoreCalls() []call {
 	return list
 }
 
+func nodeCalls(n impl.Node) []call {
+	named := func(name string) string { return fmt.Sprintf("%s(%.160s)", name, nodeShown(n)) }
+	list := []call{
+		{named("NodeOK"), func() string { return fmt.Sprint(impl.NodeOK(n)) }},
+		{named("Committed"), func() string { return fmt.Sprintln(impl.Committed(n)) }},
+	}
+	for _, number := range []int{math.MinInt, -1, 0, 4, 7, 1000000, math.MaxInt} {
+		list = append(list,
+			call{named(fmt.Sprint("NodeTick ", number)), func() string { return fmt.Sprintln(impl.NodeTick(n, number)) }},
+			call{named(fmt.Sprint("UpToDate index ", number)), func() string { return fmt.Sprintln(impl.UpToDate(n, number, 7)) }},
+			call{named(fmt.Sprint("UpToDate term ", number)), func() string { return fmt.Sprintln(impl.UpToDate(n, 4, number)) }})
+	}
+	for _, size := range []int{0, 1, 400, 401, impl.MaxText + 1} {
+		list = append(list, call{named(fmt.Sprintf("NodePropose of %d bytes", size)), func() string { return fmt.Sprintln(impl.NodePropose(n, strings.Repeat("d", size))) }})
+	}
+	for _, m := range someMessages() {
+		list = append(list, messageCalls(n, m)...)
+	}
+	return list
+}
+
+func messageCalls(n impl.Node, m impl.Message) []call {
+	name := fmt.Sprintf("(%.160s, %s)", nodeShown(n), messageShown(m))
+	return []call{
+		{"NodeTake" + name, func() string { return fmt.Sprintln(impl.NodeTake(n, m)) }},
+		{"MessageOK" + name, func() string { return fmt.Sprint(impl.MessageOK(m)) }},
+	}
+}
+
+// allNodeCalls are of nodes and messages that are right, and of such as are not.
+func allNodeCalls() []call {
+	var list []call
+	for _, n := range append(sampleNodes(), wrongNodes()...) {
+		list = append(list, nodeCalls(n)...)
+	}
+	for _, m := range wrongMessages() {
+		list = append(list, messageCalls(baseNode(), m)...)
+	}
+	for _, number := range []int{math.MinInt, -1, 0, 1, 4, 5, 6, math.MaxInt} {
+		list = append(list,
+			call{fmt.Sprintf("NewNode(%d, 5)", number), func() string { return fmt.Sprintln(impl.NewNode(number, 5)) }},
+			call{fmt.Sprintf("NewNode(0, %d)", number), func() string { return fmt.Sprintln(impl.NewNode(0, number)) }})
+	}
+	return list
+}
+
 func allCalls(t *testing.T) []call {
-	list := slices.Concat(screenAndSizeCalls(t), allLayoutCalls(), allMuxCalls(t), allStoreCalls())
+	list := slices.Concat(screenAndSizeCalls(t), allLayoutCalls(), allMuxCalls(t), allStoreCalls(), allNodeCalls())
 	for _, b := range someBytes() {
 		list = append(list, bytesCalls(b)...)
 		list = append(list, textCalls(string(b))...)
@@ -525,6 +571,27 @@ func TestAlikeStatesAndStoresHaveAlikeAnswers(t *testing.T) {
 		wantAlike(t, writeCalls(s, nil), writeCalls(s, []string{}))
 		for _, list := range append(someTextLists(), someRecords()) {
 			wantAlike(t, writeCalls(s, list), writeCalls(s, append(make([]string, 0, len(list)+50), list...)))
+		}
+	}
+}
+
+func TestAlikeNodesAndMessagesHaveAlikeAnswers(t *testing.T) {
+	for _, n := range append(sampleNodes(), wrongNodes()...) {
+		roomy, _ := roomyNode(n)
+		wantAlike(t, nodeCalls(n), nodeCalls(roomy))
+		for _, m := range append(someMessages(), wrongMessages()...) {
+			wide, _ := roomyMessage(m)
+			wantAlike(t, messageCalls(n, m), messageCalls(roomy, wide))
+		}
+	}
+	none, empty := newNode(1, 3), newNode(1, 3)
+	none.Log, none.Votes, empty.Log, empty.Votes = nil, nil, []impl.Entry{}, []int{}
+	wantAlike(t, nodeCalls(none), nodeCalls(empty))
+	wantAlike(t, nodeCalls(impl.Node{}), nodeCalls(impl.Node{Log: []impl.Entry{}, Votes: []int{}, Next: []int{}, Match: []int{}}))
+	for _, m := range someMessages() {
+		if one, other := m, m; len(m.Entries) == 0 {
+			one.Entries, other.Entries = nil, []impl.Entry{}
+			wantAlike(t, messageCalls(baseNode(), one), messageCalls(baseNode(), other))
 		}
 	}
 }
