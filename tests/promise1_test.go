@@ -398,8 +398,49 @@ func allNodeCalls() []call {
 	return list
 }
 
+func clusterCalls(c impl.Cluster) []call {
+	named := func(name string) string { return fmt.Sprintf("%s(%.160s)", name, clusterShown(c)) }
+	list := []call{
+		{named("ClusterOK"), func() string { return fmt.Sprint(impl.ClusterOK(c)) }},
+		{named("CommitsAgree"), func() string { return fmt.Sprintln(impl.CommitsAgree(c)) }},
+		{named("StoresHold"), func() string { return fmt.Sprintln(impl.StoresHold(c)) }},
+		{named("LongestDone"), func() string { return fmt.Sprintln(impl.LongestDone(c)) }},
+	}
+	for _, a := range someActs() {
+		list = append(list, call{named("ClusterStep " + actShown(a)), func() string { return fmt.Sprintln(impl.ClusterStep(c, a)) }})
+	}
+	return list
+}
+
+func clusterRunCalls(acts []impl.ClusterAct) []call {
+	var list []call
+	for _, nodes := range []int{math.MinInt, -1, 0, 1, 3, 5, 6, math.MaxInt} {
+		list = append(list, call{fmt.Sprintf("ClusterRun(%d) of %d acts", nodes, len(acts)), func() string { return fmt.Sprintln(impl.ClusterRun(nodes, acts)) }})
+	}
+	return list
+}
+
+func someClusterRuns(t *testing.T) [][]impl.ClusterAct {
+	return [][]impl.ClusterAct{nil, someActs(), replaced(t).acts, make([]impl.ClusterAct, 240), make([]impl.ClusterAct, 241), make([]impl.ClusterAct, impl.MaxList+1)}
+}
+
+// allClusterCalls are of clusters that are right, and of such as are not.
+func allClusterCalls(t *testing.T) []call {
+	var list []call
+	for _, c := range append(someClusters(t), wrongClusters()...) {
+		list = append(list, clusterCalls(c)...)
+	}
+	for _, acts := range someClusterRuns(t) {
+		list = append(list, clusterRunCalls(acts)...)
+	}
+	for _, number := range []int{math.MinInt, -1, 0, 1, 5, 6, math.MaxInt} {
+		list = append(list, call{fmt.Sprintf("NewCluster(%d)", number), func() string { return fmt.Sprintln(impl.NewCluster(number)) }})
+	}
+	return list
+}
+
 func allCalls(t *testing.T) []call {
-	list := slices.Concat(screenAndSizeCalls(t), allLayoutCalls(), allMuxCalls(t), allStoreCalls(), allNodeCalls())
+	list := slices.Concat(screenAndSizeCalls(t), allLayoutCalls(), allMuxCalls(t), allStoreCalls(), allNodeCalls(), allClusterCalls(t))
 	for _, b := range someBytes() {
 		list = append(list, bytesCalls(b)...)
 		list = append(list, textCalls(string(b))...)
@@ -593,6 +634,25 @@ func TestAlikeNodesAndMessagesHaveAlikeAnswers(t *testing.T) {
 			one.Entries, other.Entries = nil, []impl.Entry{}
 			wantAlike(t, messageCalls(baseNode(), one), messageCalls(baseNode(), other))
 		}
+	}
+}
+
+func TestAlikeClustersHaveAlikeAnswers(t *testing.T) {
+	for _, c := range append(someClusters(t), wrongClusters()...) {
+		roomy, _ := roomyCluster(c)
+		wantAlike(t, clusterCalls(c), clusterCalls(roomy))
+	}
+	none, empty := newCluster(3), newCluster(3)
+	none.Wire, none.Done, empty.Wire, empty.Done = nil, nil, []impl.Message{}, []string{}
+	for id := range 3 {
+		none.Nodes[id].Log, none.Nodes[id].Votes = nil, nil
+		empty.Nodes[id].Log, empty.Nodes[id].Votes = []impl.Entry{}, []int{}
+	}
+	wantAlike(t, clusterCalls(none), clusterCalls(empty))
+	wantAlike(t, clusterCalls(impl.Cluster{}), clusterCalls(impl.Cluster{Nodes: []impl.Node{}, Stores: []impl.Store{}, Wire: []impl.Message{}, Done: []string{}}))
+	wantAlike(t, clusterRunCalls(nil), clusterRunCalls([]impl.ClusterAct{}))
+	for _, acts := range someClusterRuns(t) {
+		wantAlike(t, clusterRunCalls(acts), clusterRunCalls(append(make([]impl.ClusterAct, 0, len(acts)+50), acts...)))
 	}
 }
 
