@@ -19,7 +19,7 @@ type call struct {
 }
 
 func bytesCalls(b []byte) []call {
-	return []call{
+	list := []call{
 		{fmt.Sprintf("Hash of %d bytes", len(b)), func() string { return impl.Hash(b) }},
 		{fmt.Sprintf("Check32 of %d bytes", len(b)), func() string { return fmt.Sprint(impl.Check32(b)) }},
 		{fmt.Sprintf("ReadFrames of %d bytes", len(b)), func() string {
@@ -38,6 +38,10 @@ func bytesCalls(b []byte) []call {
 		{fmt.Sprintf("ReadCommand of %d bytes", len(b)), func() string { return fmt.Sprintln(impl.ReadCommand(b)) }},
 		{fmt.Sprintf("ReadMux of %d bytes", len(b)), func() string { return fmt.Sprintln(impl.ReadMux(b)) }},
 	}
+	for _, size := range []int{math.MinInt, 15, 16, 100, 4096, 4097, math.MaxInt} {
+		list = append(list, call{fmt.Sprintf("CutChunks of %d bytes by %d", len(b), size), func() string { return fmt.Sprintln(impl.CutChunks(b, size)) }})
+	}
+	return list
 }
 
 func listCalls(texts []string, numbers []int) []call {
@@ -50,6 +54,12 @@ func listCalls(texts []string, numbers []int) []call {
 			b, code := impl.NumbersBytes(numbers)
 			return fmt.Sprintf("%q %d", b, code)
 		}},
+		{fmt.Sprintf("FoldData of %d data", len(texts)), func() string { return fmt.Sprintln(impl.FoldData(20, 8, texts)) }},
+		{fmt.Sprintf("FoldData(1, 8) of %d data", len(texts)), func() string { return fmt.Sprintln(impl.FoldData(1, 8, texts)) }},
+		{fmt.Sprintf("FoldFrom none of %d data", len(texts)), func() string { return fmt.Sprintln(impl.FoldFrom(impl.Mux{}, texts)) }},
+		{fmt.Sprintf("FoldFrom an empty one of %d data", len(texts)), func() string { return fmt.Sprintln(impl.FoldFrom(emptyMux(9, 9), texts)) }},
+		{fmt.Sprintf("AppliedCount of %d data", len(texts)), func() string { return fmt.Sprintln(impl.AppliedCount(texts)) }},
+		{fmt.Sprintf("JoinChunks of %d texts", len(texts)), func() string { return fmt.Sprintln(impl.JoinChunks(texts)) }},
 	}
 }
 
@@ -65,7 +75,8 @@ func someBytes() [][]byte {
 }
 
 func someTextLists() [][]string {
-	return [][]string{nil, {""}, {"one", "", "another"}, make([]string, 60), make([]string, 61), fullFields(0), fullFields(1), make([]string, impl.MaxList+1)}
+	frames := []string{string(frameOf("one")), string(frameOf("another"))}
+	return [][]string{nil, {""}, {"one", "", "another"}, make([]string, 60), make([]string, 61), fullFields(0), fullFields(1), make([]string, impl.MaxList+1), story(), frames, {frames[0] + frames[1]}, {frames[0], frames[1][:9]}}
 }
 
 func someNumberLists() [][]int {
@@ -239,6 +250,9 @@ func muxCalls(m impl.Mux) []call {
 		}
 		list = append(list, call{named(fmt.Sprintf("ApplyCommand %.80s", fmt.Sprintf("%+v", c))), func() string { return fmt.Sprintln(impl.ApplyCommand(m, c)) }})
 	}
+	for _, data := range [][]string{nil, {"junk", ""}, story(), make([]string, 61), make([]string, impl.MaxList+1)} {
+		list = append(list, call{named(fmt.Sprintf("FoldFrom of %d data", len(data))), func() string { return fmt.Sprintln(impl.FoldFrom(m, data)) }})
+	}
 	return list
 }
 
@@ -358,6 +372,9 @@ func nodeCalls(n impl.Node) []call {
 		{named("NodeOK"), func() string { return fmt.Sprint(impl.NodeOK(n)) }},
 		{named("Committed"), func() string { return fmt.Sprintln(impl.Committed(n)) }},
 	}
+	for _, h := range []int{math.MinInt, 1, 2, 10, 11, math.MaxInt} {
+		list = append(list, call{named(fmt.Sprint("FoldNode of rows ", h)), func() string { return fmt.Sprintln(impl.FoldNode(12, h, n)) }})
+	}
 	for _, number := range []int{math.MinInt, -1, 0, 4, 7, 1000000, math.MaxInt} {
 		list = append(list,
 			call{named(fmt.Sprint("NodeTick ", number)), func() string { return fmt.Sprintln(impl.NodeTick(n, number)) }},
@@ -384,7 +401,7 @@ func messageCalls(n impl.Node, m impl.Message) []call {
 // allNodeCalls are of nodes and messages that are right, and of such as are not.
 func allNodeCalls() []call {
 	var list []call
-	for _, n := range append(sampleNodes(), wrongNodes()...) {
+	for _, n := range slices.Concat(sampleNodes(), wrongNodes(), []impl.Node{committedNode(story(), 20)}) {
 		list = append(list, nodeCalls(n)...)
 	}
 	for _, m := range wrongMessages() {
@@ -617,7 +634,7 @@ func TestAlikeStatesAndStoresHaveAlikeAnswers(t *testing.T) {
 }
 
 func TestAlikeNodesAndMessagesHaveAlikeAnswers(t *testing.T) {
-	for _, n := range append(sampleNodes(), wrongNodes()...) {
+	for _, n := range slices.Concat(sampleNodes(), wrongNodes(), []impl.Node{committedNode(story(), 20)}) {
 		roomy, _ := roomyNode(n)
 		wantAlike(t, nodeCalls(n), nodeCalls(roomy))
 		for _, m := range append(someMessages(), wrongMessages()...) {
