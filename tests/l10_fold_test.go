@@ -930,7 +930,7 @@ func TestFoldsByWayOfSnapshots(t *testing.T) {
 	list := story()
 	whole, _, _ := wantFoldData(t, 20, 8, list)
 	half, _, _ := wantFoldData(t, 20, 8, list[:9])
-	for size := 16; size <= 4096; size += 1 + size/64 {
+	for size := 16; size <= 4096; size++ {
 		if end, _, code := impl.FoldFrom(bySnapshot(t, half, size), list[9:]); code != impl.OK || !sameMuxes(end, whole) {
 			t.Errorf("by way of pieces of %d: %s, %d", size, muxShown(end), code)
 		}
