@@ -37,6 +37,7 @@ func bytesCalls(b []byte) []call {
 		{fmt.Sprintf("ReadScreen of %d bytes", len(b)), func() string { return fmt.Sprintln(impl.ReadScreen(b)) }},
 		{fmt.Sprintf("ReadCommand of %d bytes", len(b)), func() string { return fmt.Sprintln(impl.ReadCommand(b)) }},
 		{fmt.Sprintf("ReadMux of %d bytes", len(b)), func() string { return fmt.Sprintln(impl.ReadMux(b)) }},
+		{fmt.Sprintf("ReadView of %d bytes", len(b)), func() string { return fmt.Sprintln(impl.ReadView(b)) }},
 	}
 	for _, size := range []int{math.MinInt, 15, 16, 100, 4096, 4097, math.MaxInt} {
 		list = append(list, call{fmt.Sprintf("CutChunks of %d bytes by %d", len(b), size), func() string { return fmt.Sprintln(impl.CutChunks(b, size)) }})
@@ -60,6 +61,11 @@ func listCalls(texts []string, numbers []int) []call {
 		{fmt.Sprintf("FoldFrom an empty one of %d data", len(texts)), func() string { return fmt.Sprintln(impl.FoldFrom(emptyMux(9, 9), texts)) }},
 		{fmt.Sprintf("AppliedCount of %d data", len(texts)), func() string { return fmt.Sprintln(impl.AppliedCount(texts)) }},
 		{fmt.Sprintf("JoinChunks of %d texts", len(texts)), func() string { return fmt.Sprintln(impl.JoinChunks(texts)) }},
+		{fmt.Sprintf("FullView of %d rows", len(texts)), func() string { return fmt.Sprintln(impl.FullView(7, 4, 3, texts)) }},
+		{fmt.Sprintf("FullView(61) of %d rows", len(texts)), func() string { return fmt.Sprintln(impl.FullView(61, 4, 3, texts)) }},
+		{fmt.Sprintf("DiffView of %d rows", len(texts)), func() string { return fmt.Sprintln(impl.DiffView(6, 7, 4, 3, motleyRows(4, 3, 0), texts)) }},
+		{fmt.Sprintf("DiffView of %d old rows", len(texts)), func() string { return fmt.Sprintln(impl.DiffView(6, 7, 4, 3, texts, motleyRows(4, 3, 0))) }},
+		{fmt.Sprintf("DiffView of %d rows all alike", len(texts)), func() string { return fmt.Sprintln(impl.DiffView(6, 7, 4, 3, texts, texts)) }},
 	}
 }
 
@@ -76,7 +82,7 @@ func someBytes() [][]byte {
 
 func someTextLists() [][]string {
 	frames := []string{string(frameOf("one")), string(frameOf("another"))}
-	return [][]string{nil, {""}, {"one", "", "another"}, make([]string, 60), make([]string, 61), fullFields(0), fullFields(1), make([]string, impl.MaxList+1), story(), frames, {frames[0] + frames[1]}, {frames[0], frames[1][:9]}}
+	return [][]string{nil, {""}, {"one", "", "another"}, make([]string, 60), make([]string, 61), fullFields(0), fullFields(1), make([]string, impl.MaxList+1), story(), frames, {frames[0] + frames[1]}, {frames[0], frames[1][:9]}, motleyRows(4, 3, 0), motleyRows(4, 3, 1)}
 }
 
 func someNumberLists() [][]int {
@@ -456,8 +462,64 @@ func allClusterCalls(t *testing.T) []call {
 	return list
 }
 
+func viewCalls(v impl.View) []call {
+	named := func(name string) string { return fmt.Sprintf("%s(%.160s)", name, viewShown(v)) }
+	list := []call{
+		{named("ViewOK"), func() string { return fmt.Sprint(impl.ViewOK(v)) }},
+		{named("ViewBytes"), func() string { return fmt.Sprintln(impl.ViewBytes(v)) }},
+	}
+	for _, m := range append(someMirrors(), wrongMirrors()[:6]...) {
+		list = append(list, acceptCalls(m, v)...)
+	}
+	return list
+}
+
+func acceptCalls(m impl.Mirror, v impl.View) []call {
+	name := fmt.Sprintf("AcceptView(%.160s, %.160s)", mirrorShown(m), viewShown(v))
+	return []call{{name, func() string { return fmt.Sprintln(impl.AcceptView(m, v)) }}}
+}
+
+func mirrorCalls(m impl.Mirror) []call {
+	named := func(name string) string { return fmt.Sprintf("%s(%.160s)", name, mirrorShown(m)) }
+	list := []call{
+		{named("MirrorOK"), func() string { return fmt.Sprint(impl.MirrorOK(m)) }},
+		{named("MirrorText"), func() string { return fmt.Sprintln(impl.MirrorText(m)) }},
+	}
+	for _, v := range append(someViews(), wrongViews()[:6]...) {
+		list = append(list, acceptCalls(m, v)...)
+	}
+	return list
+}
+
+// allViewCalls are of views and mirrors that are right, and of such as are not, and of numbers and sizes that make them.
+func allViewCalls() []call {
+	var list []call
+	for _, v := range someViews() {
+		b := modelViewBytes(v)
+		list = append(list, slices.Concat(viewCalls(v), bytesCalls(b), bytesCalls(b[1:]), bytesCalls(b[:len(b)-1]))...)
+	}
+	for _, v := range wrongViews() {
+		list = append(list, viewCalls(v)...)
+	}
+	for _, m := range append(someMirrors(), wrongMirrors()...) {
+		list = append(list, mirrorCalls(m)...)
+	}
+	old, rows := motleyRows(4, 3, 0), motleyRows(4, 3, 1)
+	for _, n := range []int{math.MinInt, -1, 0, 1, 3, 4, 60, 61, math.MaxInt} {
+		list = append(list,
+			call{fmt.Sprintf("FullView(%d, 4, 3)", n), func() string { return fmt.Sprintln(impl.FullView(n, 4, 3, rows)) }},
+			call{fmt.Sprintf("FullView(5, %d, 3)", n), func() string { return fmt.Sprintln(impl.FullView(5, n, 3, rows)) }},
+			call{fmt.Sprintf("FullView(5, 4, %d)", n), func() string { return fmt.Sprintln(impl.FullView(5, 4, n, rows)) }},
+			call{fmt.Sprintf("DiffView(%d, 5, 4, 3)", n), func() string { return fmt.Sprintln(impl.DiffView(n, 5, 4, 3, old, rows)) }},
+			call{fmt.Sprintf("DiffView(0, %d, 4, 3)", n), func() string { return fmt.Sprintln(impl.DiffView(0, n, 4, 3, old, rows)) }},
+			call{fmt.Sprintf("DiffView(0, 5, %d, 3)", n), func() string { return fmt.Sprintln(impl.DiffView(0, 5, n, 3, old, rows)) }},
+			call{fmt.Sprintf("DiffView(0, 5, 4, %d)", n), func() string { return fmt.Sprintln(impl.DiffView(0, 5, 4, n, old, rows)) }})
+	}
+	return list
+}
+
 func allCalls(t *testing.T) []call {
-	list := slices.Concat(screenAndSizeCalls(t), allLayoutCalls(), allMuxCalls(t), allStoreCalls(), allNodeCalls(), allClusterCalls(t))
+	list := slices.Concat(screenAndSizeCalls(t), allLayoutCalls(), allMuxCalls(t), allStoreCalls(), allNodeCalls(), allClusterCalls(t), allViewCalls())
 	for _, b := range someBytes() {
 		list = append(list, bytesCalls(b)...)
 		list = append(list, textCalls(string(b))...)
@@ -670,6 +732,26 @@ func TestAlikeClustersHaveAlikeAnswers(t *testing.T) {
 	wantAlike(t, clusterRunCalls(nil), clusterRunCalls([]impl.ClusterAct{}))
 	for _, acts := range someClusterRuns(t) {
 		wantAlike(t, clusterRunCalls(acts), clusterRunCalls(append(make([]impl.ClusterAct, 0, len(acts)+50), acts...)))
+	}
+}
+
+func TestAlikeViewsAndMirrorsHaveAlikeAnswers(t *testing.T) {
+	for _, v := range append(someViews(), wrongViews()...) {
+		roomy, _ := roomyView(v)
+		wantAlike(t, viewCalls(v), viewCalls(roomy))
+	}
+	for _, m := range append(someMirrors(), wrongMirrors()...) {
+		roomy, _ := roomyMirror(m)
+		wantAlike(t, mirrorCalls(m), mirrorCalls(roomy))
+	}
+	none := impl.View{Number: 7, From: 5, W: 4, H: 3}
+	empty := impl.View{Number: 7, From: 5, W: 4, H: 3, Rows: []impl.Row{}}
+	wantAlike(t, viewCalls(none), viewCalls(empty))
+	wantAlike(t, viewCalls(impl.View{}), viewCalls(impl.View{Rows: []impl.Row{}}))
+	wantAlike(t, mirrorCalls(impl.Mirror{Number: -1}), mirrorCalls(impl.Mirror{Number: -1, Rows: []string{}}))
+	wantAlike(t, mirrorCalls(impl.Mirror{}), mirrorCalls(impl.Mirror{Rows: []string{}}))
+	for _, list := range someTextLists() {
+		wantAlike(t, listCalls(list, nil), listCalls(append(make([]string, 0, len(list)+50), list...), nil))
 	}
 }
 
