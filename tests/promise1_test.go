@@ -518,8 +518,53 @@ func allViewCalls() []call {
 	return list
 }
 
+func issueCalls(key string, client int, window string, number int) []call {
+	name := fmt.Sprintf("(%.12q of %d bytes, %d, %.15q of %d bytes, %d)", key, len(key), client, window, len(window), number)
+	return []call{
+		{"TokenMark" + name, func() string { return fmt.Sprintln(impl.TokenMark(key, client, window, number)) }},
+		{"IssueToken" + name, func() string { return fmt.Sprintln(impl.IssueToken(key, client, window, number)) }},
+	}
+}
+
+func readTokenCalls(key, text string) []call {
+	name := fmt.Sprintf("ReadToken(%.12q of %d bytes, %.60q of %d bytes)", key, len(key), text, len(text))
+	return []call{{name, func() string { return fmt.Sprintln(impl.ReadToken(key, text)) }}}
+}
+
+func someKeys() []string {
+	var list []string
+	for _, n := range []int{0, 3, 64, 65, impl.MaxText, impl.MaxText + 1} {
+		list = append(list, string(sampleBytes(n)))
+	}
+	return append(list, "key")
+}
+
+func someTokenTexts() []string {
+	token := modelToken("key", 3, "main", 12)
+	return append(someTokens(), "", " ", "    ", "token", token+"0", token+" ", " "+token, token[1:], token[:len(token)-32], "token 03 main 12 0", "\xff\x00",
+		strings.Repeat(" ", impl.MaxText), strings.Repeat("t ", impl.MaxText/2), strings.Repeat("9", impl.MaxText+1), string(sampleBytes(impl.MaxText)))
+}
+
+// allTokenCalls are of what a token may say, and of what it may not, and of texts that are tokens, and that are none.
+func allTokenCalls() []call {
+	var list []call
+	for _, key := range someKeys() {
+		for _, n := range []int{math.MinInt, -2, -1, 0, 60, 61, 200, 201, math.MaxInt} {
+			list = append(list, issueCalls(key, n, "main", 12)...)
+			list = append(list, issueCalls(key, 3, "main", n)...)
+		}
+		for _, window := range []string{"", "9", "ma in", strings.Repeat("a", 12), strings.Repeat("a", 13), strings.Repeat("a", impl.MaxText+1)} {
+			list = append(list, issueCalls(key, 3, window, 12)...)
+		}
+		for _, text := range someTokenTexts() {
+			list = append(list, readTokenCalls(key, text)...)
+		}
+	}
+	return list
+}
+
 func allCalls(t *testing.T) []call {
-	list := slices.Concat(screenAndSizeCalls(t), allLayoutCalls(), allMuxCalls(t), allStoreCalls(), allNodeCalls(), allClusterCalls(t), allViewCalls())
+	list := slices.Concat(screenAndSizeCalls(t), allLayoutCalls(), allMuxCalls(t), allStoreCalls(), allNodeCalls(), allClusterCalls(t), allViewCalls(), allTokenCalls())
 	for _, b := range someBytes() {
 		list = append(list, bytesCalls(b)...)
 		list = append(list, textCalls(string(b))...)
@@ -752,6 +797,19 @@ func TestAlikeViewsAndMirrorsHaveAlikeAnswers(t *testing.T) {
 	wantAlike(t, mirrorCalls(impl.Mirror{}), mirrorCalls(impl.Mirror{Rows: []string{}}))
 	for _, list := range someTextLists() {
 		wantAlike(t, listCalls(list, nil), listCalls(append(make([]string, 0, len(list)+50), list...), nil))
+	}
+}
+
+func TestAlikeTokensHaveAlikeAnswers(t *testing.T) {
+	// within is alike, but has other bytes ahead of it and behind it in its memory
+	within := func(text string) string { return ("9 " + text + " 9")[2 : 2+len(text)] }
+	for _, key := range someKeys() {
+		for _, window := range []string{"", "main", "9", strings.Repeat("a", 13)} {
+			wantAlike(t, issueCalls(key, 3, window, 12), issueCalls(within(key), 3, within(window), 12))
+		}
+		for _, text := range someTokenTexts() {
+			wantAlike(t, readTokenCalls(key, text), readTokenCalls(within(key), within(text)))
+		}
 	}
 }
 
