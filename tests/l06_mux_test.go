@@ -2077,7 +2077,24 @@ func TestPaneAtOfEachAndOfNone(t *testing.T) {
 	}
 }
 
-// wantRendered asks of each place of each window which pane's area has it.
+// modelWindowRows asks of each place of a window which pane's area has it.
+func modelWindowRows(m impl.Mux, window impl.Window) []string {
+	areas := modelAreas(window.Layout, m.W, m.H)
+	var rows []string
+	for y := range m.H {
+		row := ""
+		for x := range m.W {
+			i := slices.IndexFunc(areas, func(a impl.Area) bool { return x >= a.X && x < a.X+a.W && y >= a.Y && y < a.Y+a.H })
+			p := m.Panes[slices.IndexFunc(m.Panes, func(p impl.Pane) bool { return p.Id == areas[i].Pane })]
+			cell := p.Screen.Cells[(y-areas[i].Y)*p.Screen.W+x-areas[i].X]
+			row += string(binary.BigEndian.AppendUint32(nil, uint32(cell.Rune<<8|cell.Look)))
+		}
+		rows = append(rows, row)
+	}
+	return rows
+}
+
+// wantRendered holds the rows of each window against the model.
 func wantRendered(t *testing.T, m impl.Mux) {
 	t.Helper()
 	for _, window := range m.Windows {
@@ -2085,17 +2102,9 @@ func wantRendered(t *testing.T, m impl.Mux) {
 		if code != impl.OK || len(rows) != m.H {
 			t.Fatalf("RenderWindow(%q) = %d rows, %d", window.Name, len(rows), code)
 		}
-		areas := modelAreas(window.Layout, m.W, m.H)
-		for y, row := range rows {
-			want := ""
-			for x := range m.W {
-				i := slices.IndexFunc(areas, func(a impl.Area) bool { return x >= a.X && x < a.X+a.W && y >= a.Y && y < a.Y+a.H })
-				p := m.Panes[slices.IndexFunc(m.Panes, func(p impl.Pane) bool { return p.Id == areas[i].Pane })]
-				cell := p.Screen.Cells[(y-areas[i].Y)*p.Screen.W+x-areas[i].X]
-				want += string(binary.BigEndian.AppendUint32(nil, uint32(cell.Rune<<8|cell.Look)))
-			}
-			if row != want {
-				t.Fatalf("row %d of %q is %q, not %q", y, window.Name, row, want)
+		for y, want := range modelWindowRows(m, window) {
+			if rows[y] != want {
+				t.Fatalf("row %d of %q is %q, not %q", y, window.Name, rows[y], want)
 			}
 		}
 	}

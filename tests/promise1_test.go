@@ -563,8 +563,80 @@ func allTokenCalls() []call {
 	return list
 }
 
+func newClientCalls(key string, id int, window string) []call {
+	name := fmt.Sprintf("NewClient(%.12q of %d bytes, %d, %.15q of %d bytes)", key, len(key), id, window, len(window))
+	return []call{{name, func() string { return fmt.Sprintln(impl.NewClient(key, id, window)) }}}
+}
+
+func serveCalls(key string, w, h int, n impl.Node, token string) []call {
+	name := fmt.Sprintf("ServeView(%.12q of %d bytes, %d, %d, %.160s, %.60q of %d bytes)", key, len(key), w, h, nodeShown(n), token, len(token))
+	return []call{{name, func() string { return fmt.Sprintln(impl.ServeView(key, w, h, n, token)) }}}
+}
+
+func clientCalls(key string, c impl.Client) []call {
+	name := fmt.Sprintf("(%.12q of %d bytes, %.160s)", key, len(key), clientShown(c))
+	list := []call{{"ClientOK" + name, func() string { return fmt.Sprint(impl.ClientOK(key, c)) }}}
+	for _, v := range viewsForClients() {
+		for _, token := range []string{modelToken(key, c.Id, c.Window, v.Number), c.Token, "", strings.Repeat("t", impl.MaxText+1)} {
+			list = append(list, clientAcceptCalls(key, c, v, token)...)
+		}
+	}
+	return list
+}
+
+func clientAcceptCalls(key string, c impl.Client, v impl.View, token string) []call {
+	name := fmt.Sprintf("ClientAccept(%.12q of %d bytes, %.160s, %.160s, %.60q of %d bytes)", key, len(key), clientShown(c), viewShown(v), token, len(token))
+	return []call{{name, func() string { return fmt.Sprintln(impl.ClientAccept(key, c, v, token)) }}}
+}
+
+// viewsForClients are such as a client of Number 7 and size 4 by 3 takes, and such as it does not.
+func viewsForClients() []impl.View {
+	rows := motleyRows(4, 3, 1)
+	return []impl.View{someOf(7, 9, 4, 3, rows, 0, 2), someOf(7, 9, 4, 3, nil), someOf(6, 9, 4, 3, rows, 1), fullOf(9, 4, 3, rows), fullOf(7, 4, 3, rows), fullOf(60, 24, 10, motleyRows(24, 10, 1)), {}}
+}
+
+func nodesForClients() []impl.Node {
+	n := nodeKnowing(saga(), 10)
+	return []impl.Node{n, nodeKnowing(saga(), 18), nodeKnowing(saga(), 0), downNode(n), newNode(0, 1), baseNode(), wrongNodes()[5], {}}
+}
+
+func tokensForClients() []string {
+	list := []string{"", "token", strings.Repeat("t", impl.MaxText), strings.Repeat("t", impl.MaxText+1), modelToken("other", 3, "main", 2)}
+	for _, number := range []int{-1, 0, 2, 9, 10, 11, 60} {
+		list = append(list, modelToken("key", 3, "main", number), modelToken("key", 200, "logs", number), modelToken("key", 0, "never", number))
+	}
+	return list
+}
+
+// allClientCalls are of clients and nodes that are right, and of such as are not, of right tokens and of others, and of sizes and keys.
+func allClientCalls() []call {
+	var list []call
+	for _, key := range someKeys() {
+		for _, id := range []int{math.MinInt, -1, 0, 200, 201, math.MaxInt} {
+			list = append(list, newClientCalls(key, id, "main")...)
+		}
+		for _, window := range []string{"", "9", "ma in", strings.Repeat("a", 12), strings.Repeat("a", 13), strings.Repeat("a", impl.MaxText+1)} {
+			list = append(list, newClientCalls(key, 3, window)...)
+		}
+		c, _, _ := acceptBase()
+		list = append(list, slices.Concat(clientCalls(key, c), clientCalls(key, clientWith(key, 3, "main", c.Mirror)), serveCalls(key, 20, 8, nodeKnowing(saga(), 10), modelToken(key, 3, "main", 2)))...)
+	}
+	for _, c := range append(someClients("key"), wrongClients("key")...) {
+		list = append(list, clientCalls("key", c)...)
+	}
+	for _, n := range nodesForClients() {
+		for _, token := range tokensForClients() {
+			list = append(list, slices.Concat(serveCalls("key", 20, 8, n, token), serveCalls("key", math.MinInt, 8, n, token), serveCalls("key", 20, math.MaxInt, n, token))...)
+		}
+		for _, size := range []int{-1, 1, 2, 10, 11, 24, 25} {
+			list = append(list, slices.Concat(serveCalls("key", size, 8, n, modelToken("key", 3, "main", 2)), serveCalls("key", 20, size, n, modelToken("key", 3, "main", 2)))...)
+		}
+	}
+	return list
+}
+
 func allCalls(t *testing.T) []call {
-	list := slices.Concat(screenAndSizeCalls(t), allLayoutCalls(), allMuxCalls(t), allStoreCalls(), allNodeCalls(), allClusterCalls(t), allViewCalls(), allTokenCalls())
+	list := slices.Concat(screenAndSizeCalls(t), allLayoutCalls(), allMuxCalls(t), allStoreCalls(), allNodeCalls(), allClusterCalls(t), allViewCalls(), allTokenCalls(), allClientCalls())
 	for _, b := range someBytes() {
 		list = append(list, bytesCalls(b)...)
 		list = append(list, textCalls(string(b))...)
@@ -810,6 +882,35 @@ func TestAlikeTokensHaveAlikeAnswers(t *testing.T) {
 		for _, text := range someTokenTexts() {
 			wantAlike(t, readTokenCalls(key, text), readTokenCalls(within(key), within(text)))
 		}
+	}
+}
+
+func TestAlikeClientsHaveAlikeAnswers(t *testing.T) {
+	// within is alike, but has other bytes ahead of it and behind it in its memory
+	within := func(text string) string { return ("9 " + text + " 9")[2 : 2+len(text)] }
+	for _, c := range append(someClients("key"), wrongClients("key")...) {
+		roomy, _ := roomyClient(c)
+		roomy.Window, roomy.Token = within(c.Window), within(c.Token)
+		wantAlike(t, clientCalls("key", c), clientCalls(within("key"), roomy))
+	}
+	none, empty := newClient("key", 3, "main"), newClient("key", 3, "main")
+	none.Mirror.Rows, empty.Mirror.Rows = nil, []string{}
+	wantAlike(t, clientCalls("key", none), clientCalls("key", empty))
+	wantAlike(t, clientCalls("key", impl.Client{}), clientCalls("key", impl.Client{Mirror: impl.Mirror{Rows: []string{}}}))
+	c, _, token := acceptBase()
+	for _, v := range viewsForClients() {
+		roomy, _ := roomyView(v)
+		wantAlike(t, clientAcceptCalls("key", c, v, token), clientAcceptCalls("key", c, roomy, within(token)))
+	}
+	wantAlike(t, clientAcceptCalls("key", c, someOf(7, 9, 4, 3, nil), token), clientAcceptCalls("key", c, impl.View{Number: 9, From: 7, W: 4, H: 3, Rows: []impl.Row{}}, token))
+	for _, n := range nodesForClients() {
+		roomy, _ := roomyNode(n)
+		for _, token := range tokensForClients() {
+			wantAlike(t, serveCalls("key", 20, 8, n, token), serveCalls(within("key"), 20, 8, roomy, within(token)))
+		}
+	}
+	for _, window := range []string{"", "main", "9", strings.Repeat("a", 13)} {
+		wantAlike(t, newClientCalls("key", 3, window), newClientCalls(within("key"), 3, within(window)))
 	}
 }
 
