@@ -635,8 +635,50 @@ func allClientCalls() []call {
 	return list
 }
 
+func worldCalls(w impl.World) []call {
+	named := func(name string) string { return fmt.Sprintf("%s(%.200s)", name, worldShown(w)) }
+	list := []call{{named("WorldOK"), func() string { return fmt.Sprint(impl.WorldOK(w)) }}}
+	for _, a := range append(someWorldActs(), tokenAct(0, 0, strings.Repeat("t", impl.MaxText+1))) {
+		list = append(list, call{named("WorldStep " + worldActShown(a)), func() string { return fmt.Sprintln(impl.WorldStep(w, a)) }})
+	}
+	return list
+}
+
+func worldRunCalls(acts []impl.WorldAct) []call {
+	var list []call
+	for _, n := range []int{math.MinInt, 0, 1, 2, 3, 5, 6, math.MaxInt} {
+		list = append(list,
+			call{fmt.Sprintf("WorldRun(%d, 20, 8) of %d acts", n, len(acts)), func() string { return fmt.Sprintln(impl.WorldRun(n, 20, 8, acts)) }},
+			call{fmt.Sprintf("WorldRun(3, %d, 10) of %d acts", n, len(acts)), func() string { return fmt.Sprintln(impl.WorldRun(3, n, 10, acts)) }},
+			call{fmt.Sprintf("WorldRun(1, 24, %d) of %d acts", n, len(acts)), func() string { return fmt.Sprintln(impl.WorldRun(1, 24, n, acts)) }})
+	}
+	return list
+}
+
+// allWorldCalls are of worlds that are right, and of such as are not, each with some of the acts, and of numbers and acts that make them.
+func allWorldCalls(t *testing.T) []call {
+	list := []call{{"WorldKey", impl.WorldKey}}
+	for i, w := range append(someWorlds(t), wrongWorlds()...) {
+		for j, c := range worldCalls(w) {
+			if (i+j)%3 == 0 {
+				list = append(list, c)
+			}
+		}
+	}
+	for _, acts := range someWorldRuns() {
+		list = append(list, worldRunCalls(acts)...)
+	}
+	for _, n := range []int{math.MinInt, -1, 0, 1, 2, 5, 6, 10, 11, 24, 25, math.MaxInt} {
+		list = append(list,
+			call{fmt.Sprintf("NewWorld(%d, 5, 5)", n), func() string { return fmt.Sprintln(impl.NewWorld(n, 5, 5)) }},
+			call{fmt.Sprintf("NewWorld(3, %d, 5)", n), func() string { return fmt.Sprintln(impl.NewWorld(3, n, 5)) }},
+			call{fmt.Sprintf("NewWorld(3, 5, %d)", n), func() string { return fmt.Sprintln(impl.NewWorld(3, 5, n)) }})
+	}
+	return list
+}
+
 func allCalls(t *testing.T) []call {
-	list := slices.Concat(screenAndSizeCalls(t), allLayoutCalls(), allMuxCalls(t), allStoreCalls(), allNodeCalls(), allClusterCalls(t), allViewCalls(), allTokenCalls(), allClientCalls())
+	list := slices.Concat(screenAndSizeCalls(t), allLayoutCalls(), allMuxCalls(t), allStoreCalls(), allNodeCalls(), allClusterCalls(t), allViewCalls(), allTokenCalls(), allClientCalls(), allWorldCalls(t))
 	for _, b := range someBytes() {
 		list = append(list, bytesCalls(b)...)
 		list = append(list, textCalls(string(b))...)
@@ -911,6 +953,28 @@ func TestAlikeClientsHaveAlikeAnswers(t *testing.T) {
 	}
 	for _, window := range []string{"", "main", "9", strings.Repeat("a", 13)} {
 		wantAlike(t, newClientCalls("key", 3, window), newClientCalls(within("key"), 3, within(window)))
+	}
+}
+
+func TestAlikeWorldsHaveAlikeAnswers(t *testing.T) {
+	for _, w := range append(someWorlds(t), wrongWorlds()...) {
+		roomy, _ := roomyWorld(w)
+		wantAlike(t, worldCalls(w), worldCalls(roomy))
+	}
+	none, empty := newWorld(3, 20, 8), newWorld(3, 20, 8)
+	none.Cluster.Wire, none.Cluster.Done, empty.Cluster.Wire, empty.Cluster.Done = nil, nil, []impl.Message{}, []string{}
+	for id := range 2 {
+		none.Clients[id].Mirror.Rows, empty.Clients[id].Mirror.Rows = nil, []string{}
+	}
+	for id := range 3 {
+		none.Cluster.Nodes[id].Log, none.Cluster.Nodes[id].Votes = nil, nil
+		empty.Cluster.Nodes[id].Log, empty.Cluster.Nodes[id].Votes = []impl.Entry{}, []int{}
+	}
+	wantAlike(t, worldCalls(none), worldCalls(empty))
+	wantAlike(t, worldCalls(impl.World{}), worldCalls(impl.World{Clients: []impl.Client{}}))
+	wantAlike(t, worldRunCalls(nil), worldRunCalls([]impl.WorldAct{}))
+	for _, acts := range someWorldRuns() {
+		wantAlike(t, worldRunCalls(acts), worldRunCalls(append(make([]impl.WorldAct, 0, len(acts)+50), acts...)))
 	}
 }
 
