@@ -462,6 +462,7 @@ func TestTitlesThatAreBrokenOff(t *testing.T) {
 }
 
 func TestEveryRuneIsPrinted(t *testing.T) {
+	t.Parallel()
 	var text []byte
 	var want []impl.Action
 	check := func() {
@@ -558,6 +559,7 @@ func TestDrawnBytesInPieces(t *testing.T) {
 }
 
 func TestManyBytesInManyPieces(t *testing.T) {
+	t.Parallel()
 	draw := rand.New(rand.NewSource(4))
 	for range 20 {
 		in := likelyBytes(draw, impl.MaxText)

@@ -367,6 +367,7 @@ func screenActions() []impl.Action {
 }
 
 func TestEveryActionAtEveryPlace(t *testing.T) {
+	t.Parallel()
 	actions := screenActions()
 	for _, s := range placedScreens(motleyScreen(t, 3, 4)) {
 		for _, a := range actions {
@@ -383,6 +384,7 @@ func TestEveryActionAtEveryPlace(t *testing.T) {
 }
 
 func TestActionsOnTheGreatestScreen(t *testing.T) {
+	t.Parallel()
 	actions := screenActions()
 	for _, area := range [][2]int{{0, 9}, {8, 9}, {3, 6}, {0, 5}} {
 		s := motleyScreen(t, impl.MaxWidth, impl.MaxHeight)
@@ -1140,6 +1142,7 @@ func wantRead(t *testing.T, b []byte) {
 }
 
 func TestBytesThatAreNoScreens(t *testing.T) {
+	t.Parallel()
 	for _, s := range someScreens(t) {
 		b := modelScreenBytes(s)
 		if len(b) > 200 {
@@ -1417,6 +1420,7 @@ func spoiltScreen(s impl.Screen) {
 }
 
 func TestScreensAreNotChangedAndAnswersAreNewMemory(t *testing.T) {
+	t.Parallel()
 	actions := screenActions()
 	for i, from := range rightScreens(t) {
 		s, lists := roomyScreen(from)

@@ -854,6 +854,7 @@ func TestSplitsWrittenOut(t *testing.T) {
 }
 
 func TestSplitsOfEveryPane(t *testing.T) {
+	t.Parallel()
 	counts := map[int]int{}
 	for _, a := range laidOut(6) {
 		for _, pane := range append(modelPanes(a.l), 5) {
@@ -1010,6 +1011,7 @@ func TestMovesWrittenOut(t *testing.T) {
 }
 
 func TestMovesOfEveryPane(t *testing.T) {
+	t.Parallel()
 	for _, a := range laidOut(6) {
 		for _, pane := range append(modelPanes(a.l), 5, 0, -1, 1001) {
 			for _, by := range []int{math.MinInt, -101, -100, -99, -4, -3, -2, -1, 0, 1, 2, 3, 4, 99, 100, 101, math.MaxInt} {
@@ -1079,6 +1081,7 @@ func fitSizes(l impl.Layout) [][2]int {
 }
 
 func TestFitsOfEveryShape(t *testing.T) {
+	t.Parallel()
 	for _, a := range laidOut(6) {
 		for _, size := range fitSizes(a.l) {
 			got, code := impl.FitLayout(a.l, a.w, a.h, size[0], size[1])

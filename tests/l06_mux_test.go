@@ -1089,6 +1089,7 @@ func drawnStart(t *testing.T, draw *rand.Rand) impl.Mux {
 }
 
 func TestDrawnCommands(t *testing.T) {
+	t.Parallel()
 	draw := rand.New(rand.NewSource(7))
 	panes, codes := map[[2]int]int{}, map[[2]int]int{}
 	for range 400 {
@@ -1561,6 +1562,7 @@ func wantReadMux(t *testing.T, b []byte) bool {
 }
 
 func TestBytesThatAreNoMuxes(t *testing.T) {
+	t.Parallel()
 	read := 0
 	for _, m := range someMuxes(t) {
 		b := modelMuxBytes(m)

@@ -1392,6 +1392,7 @@ func (r *rack) wantCommitted(data string) {
 }
 
 func TestWithAllUpAndAllGiven(t *testing.T) {
+	t.Parallel()
 	for nodes := 1; nodes <= 5; nodes++ {
 		for first := range nodes {
 			r := newRack(t, nodes)
@@ -1477,6 +1478,7 @@ func alikeFromTheFront(a, b []impl.Entry) int {
 
 // Whatever comes, and wherever the power goes.
 func TestDrawnRunsOfClusters(t *testing.T) {
+	t.Parallel()
 	draw := rand.New(rand.NewSource(91))
 	codes, done, led, cut := map[[2]int]int{}, 0, 0, 0
 	for run := range 80 {

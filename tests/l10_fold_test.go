@@ -291,6 +291,7 @@ func TestFoldsOfSoManyData(t *testing.T) {
 
 // What is told of the others, and what they do, is as if the data that are none were not there.
 func TestDataThatAreNone(t *testing.T) {
+	t.Parallel()
 	rest := story()
 	without, told, _ := wantFoldData(t, 20, 8, rest)
 	for _, none := range noneData(t) {
@@ -450,6 +451,7 @@ func TestDrawnDataOneByOne(t *testing.T) {
 
 // The list folded at once and in two parts, cut at every place, makes the same.
 func TestFoldsInTwoParts(t *testing.T) {
+	t.Parallel()
 	for _, list := range drawnLists(t, 11, 12) {
 		whole, told, code := wantFoldData(t, 20, 8, list)
 		if code != impl.OK {
@@ -476,6 +478,7 @@ func TestFoldsInTwoParts(t *testing.T) {
 }
 
 func TestFoldFromOfEachMux(t *testing.T) {
+	t.Parallel()
 	var all []string
 	for i, c := range append(someCommands(), rightCommands()...) {
 		if all = append(all, dataIn(from(200, at(20+i, c)))...); i%5 == 0 {
@@ -915,6 +918,7 @@ func bySnapshot(t *testing.T, m impl.Mux, size int) impl.Mux {
 
 // A fold goes on from a snapshot to just what it would have been, wherever the list is cut, and of whatever size the pieces are.
 func TestFoldsByWayOfSnapshots(t *testing.T) {
+	t.Parallel()
 	sizes := []int{16, 17, 64, 100, 1000, 4095, 4096}
 	for i, list := range drawnLists(t, 12, 10) {
 		whole, told, _ := wantFoldData(t, 20, 8, list)

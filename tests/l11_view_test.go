@@ -1021,6 +1021,7 @@ func drawnRows(draw *rand.Rand, w int, old []string) []string {
 }
 
 func TestRowsOfViewsOfChangingRowsAndSizes(t *testing.T) {
+	t.Parallel()
 	draw := rand.New(rand.NewSource(11))
 	counts := map[int]int{}
 	for range 300 {
@@ -1291,6 +1292,7 @@ func TestViewsAndMirrorsThatAreRightAndNot(t *testing.T) {
 }
 
 func TestBytesThatAreNoViews(t *testing.T) {
+	t.Parallel()
 	read := 0
 	for _, v := range someViews() {
 		b := modelViewBytes(v)

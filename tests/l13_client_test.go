@@ -486,6 +486,7 @@ func TestViewsOfOtherSizesWrittenOut(t *testing.T) {
 
 // A view from each number to each count is what changed, or full where the window was not there or the size another.
 func TestViewsFromEveryNumber(t *testing.T) {
+	t.Parallel()
 	counts := map[string]int{}
 	for _, list := range [][]string{saga(), story(), slices.Concat(saga()[:4], []string{"", ""}, story()[6:])} {
 		for commit := range len(list) + 1 {
@@ -868,6 +869,7 @@ func drawnNode(draw *rand.Rand, list []string, commit int) impl.Node {
 }
 
 func TestClientsThatPollNodesThatKnowMoreAndLess(t *testing.T) {
+	t.Parallel()
 	codes := map[string]int{}
 	for seed := range int64(30) {
 		draw := rand.New(rand.NewSource(seed))
@@ -918,6 +920,7 @@ func lastingData(draw *rand.Rand, n int) []string {
 
 // A view that comes behind a later one, or that the one ahead of did not come, leaves the client as it was; a poll leads it on all the same.
 func TestViewsThatComeOutOfOrderOrNever(t *testing.T) {
+	t.Parallel()
 	codes := map[string]int{}
 	for seed := range int64(8) {
 		draw := rand.New(rand.NewSource(1000 + seed))

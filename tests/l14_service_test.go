@@ -346,6 +346,7 @@ func TestTheClustersOfWorlds(t *testing.T) {
 }
 
 func TestTheClientsOfWorlds(t *testing.T) {
+	t.Parallel()
 	wantWorldIs(t, "none", impl.World{}, false)
 	wantWorldIs(t, "base", sagaWorld(), true)
 	other := newClient(worldKey, 2, "main")
@@ -408,6 +409,7 @@ func TestTokensOfActsThatAreTooLong(t *testing.T) {
 }
 
 func TestKindsOfWorldActs(t *testing.T) {
+	t.Parallel()
 	for _, kind := range append([]int{-4, -3, -2, -1, 0, 5, 6, 7, 8, 9, 256 + 1, 1<<32 + 3}, strayNumbers...) {
 		for _, a := range actsOfKinds() {
 			a.Kind = kind
@@ -419,6 +421,7 @@ func TestKindsOfWorldActs(t *testing.T) {
 }
 
 func TestWhichClientsAndNodesOfAWorldThereAre(t *testing.T) {
+	t.Parallel()
 	window := at(1, windowCommand("x"))
 	for nodes := 1; nodes <= 5; nodes++ {
 		w := newWorld(nodes, 20, 8)
@@ -684,6 +687,7 @@ func TestTokensOfPollsWrittenOut(t *testing.T) {
 
 // With its own token an act does just what a poll does; a poll asks nothing of the act's token.
 func TestPollsAndTokensAreAlike(t *testing.T) {
+	t.Parallel()
 	for number := -1; number <= 18; number++ {
 		for id, window := range []string{"main", "logs"} {
 			w := sagaWorld()
@@ -704,6 +708,7 @@ func TestPollsAndTokensAreAlike(t *testing.T) {
 
 // Which code comes first where several hold: each act has all the faults that its row names.
 func TestWhichCodeOfAWorldActComesFirst(t *testing.T) {
+	t.Parallel()
 	w := sagaWorld()
 	wrong := changedWorld(w, func(w *impl.World) { w.Clients[0].Token = "" })
 	long := strings.Repeat("t", impl.MaxText+1)
@@ -951,6 +956,7 @@ func (h *hall) drawnWorldAct(draw *rand.Rand, step, apart, ahead int) impl.World
 
 // Whatever comes, and wherever the power goes.
 func TestDrawnRunsOfWorlds(t *testing.T) {
+	t.Parallel()
 	kinds := map[string]int{}
 	for seed := range int64(40) {
 		draw := rand.New(rand.NewSource(1400 + seed))
@@ -1007,6 +1013,7 @@ func (h *hall) heal() int {
 
 // Behind crashes and cuts, with all up, and all given, polls of any node lead both mirrors to just what is done.
 func TestMirrorsOfWorldsThatHeal(t *testing.T) {
+	t.Parallel()
 	kinds := map[string]int{}
 	for nodes := 1; nodes <= 5; nodes++ {
 		h := newHall(t, nodes, kinds)
@@ -1109,6 +1116,7 @@ func someWorldRuns() [][]impl.WorldAct {
 }
 
 func TestWorldsAreNotChangedAndAnswersAreNewMemory(t *testing.T) {
+	t.Parallel()
 	for _, base := range append(someWorlds(t), wrongWorlds()...) {
 		w, lists := roomyWorld(base)
 		was := lists()

@@ -704,6 +704,7 @@ func allCalls(t *testing.T) []call {
 }
 
 func TestAnswersDoNotHangOnCallsAhead(t *testing.T) {
+	t.Parallel()
 	calls := allCalls(t)
 	first := make([]string, len(calls))
 	for i, c := range calls {
@@ -717,6 +718,7 @@ func TestAnswersDoNotHangOnCallsAhead(t *testing.T) {
 }
 
 func TestAnswersDoNotHangOnCallsBeside(t *testing.T) {
+	t.Parallel()
 	calls := allCalls(t)
 	alone := make([]string, len(calls))
 	for i, c := range calls {
