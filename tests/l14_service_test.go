@@ -883,6 +883,7 @@ func (h *hall) act(a impl.WorldAct) int {
 			h.tokens = append(h.tokens, c.Token)
 		}
 	}
+	h.wantHistoryHolds()
 	return code
 }
 

@@ -677,8 +677,29 @@ func allWorldCalls(t *testing.T) []call {
 	return list
 }
 
+func historyCalls(w impl.World) []call {
+	named := func(name string) string { return fmt.Sprintf("%s(%.200s)", name, worldShown(w)) }
+	return []call{
+		{named("MirrorsHold"), func() string { return fmt.Sprintln(impl.MirrorsHold(w)) }},
+		{named("NodesHold"), func() string { return fmt.Sprintln(impl.NodesHold(w)) }},
+		{named("HistoryMux"), func() string { return fmt.Sprintln(impl.HistoryMux(w)) }},
+	}
+}
+
+// allHistoryCalls are of worlds that are right, of such as are not, and of worlds whose sizes are anything.
+func allHistoryCalls(t *testing.T) []call {
+	var list []call
+	for _, w := range slices.Concat(someWorlds(t), wrongWorlds(), []impl.World{worldKnowing(story(), story()), worldKnowing(story()[:9], story())}) {
+		list = append(list, historyCalls(w)...)
+	}
+	for _, n := range strayNumbers {
+		list = append(list, slices.Concat(historyCalls(impl.World{W: n, H: n}), historyCalls(newWorld(3, n, 5)), historyCalls(newWorld(3, 5, n)))...)
+	}
+	return list
+}
+
 func allCalls(t *testing.T) []call {
-	list := slices.Concat(screenAndSizeCalls(t), allLayoutCalls(), allMuxCalls(t), allStoreCalls(), allNodeCalls(), allClusterCalls(t), allViewCalls(), allTokenCalls(), allClientCalls(), allWorldCalls(t))
+	list := slices.Concat(screenAndSizeCalls(t), allLayoutCalls(), allMuxCalls(t), allStoreCalls(), allNodeCalls(), allClusterCalls(t), allViewCalls(), allTokenCalls(), allClientCalls(), allWorldCalls(t), allHistoryCalls(t))
 	for _, b := range someBytes() {
 		list = append(list, bytesCalls(b)...)
 		list = append(list, textCalls(string(b))...)
@@ -962,6 +983,7 @@ func TestAlikeWorldsHaveAlikeAnswers(t *testing.T) {
 	for _, w := range append(someWorlds(t), wrongWorlds()...) {
 		roomy, _ := roomyWorld(w)
 		wantAlike(t, worldCalls(w), worldCalls(roomy))
+		wantAlike(t, historyCalls(w), historyCalls(roomy))
 	}
 	none, empty := newWorld(3, 20, 8), newWorld(3, 20, 8)
 	none.Cluster.Wire, none.Cluster.Done, empty.Cluster.Wire, empty.Cluster.Done = nil, nil, []impl.Message{}, []string{}
@@ -973,7 +995,9 @@ func TestAlikeWorldsHaveAlikeAnswers(t *testing.T) {
 		empty.Cluster.Nodes[id].Log, empty.Cluster.Nodes[id].Votes = []impl.Entry{}, []int{}
 	}
 	wantAlike(t, worldCalls(none), worldCalls(empty))
+	wantAlike(t, historyCalls(none), historyCalls(empty))
 	wantAlike(t, worldCalls(impl.World{}), worldCalls(impl.World{Clients: []impl.Client{}}))
+	wantAlike(t, historyCalls(impl.World{}), historyCalls(impl.World{Clients: []impl.Client{}}))
 	wantAlike(t, worldRunCalls(nil), worldRunCalls([]impl.WorldAct{}))
 	for _, acts := range someWorldRuns() {
 		wantAlike(t, worldRunCalls(acts), worldRunCalls(append(make([]impl.WorldAct, 0, len(acts)+50), acts...)))
