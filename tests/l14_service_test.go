@@ -849,13 +849,15 @@ func TestTheCodesOfAWorldRun(t *testing.T) {
 	}
 }
 
-// hall is a world that goes on act by act, and is asked at each what is promised of it.
+// hall is a world that goes on act by act, and is asked at each what is promised of it: of what the act does, or, as a whole, of what it holds then.
 type hall struct {
-	t      *testing.T
-	w      impl.World
-	acts   []impl.WorldAct
-	kinds  map[string]int
-	tokens []string
+	t       *testing.T
+	w       impl.World
+	acts    []impl.WorldAct
+	kinds   map[string]int
+	tokens  []string
+	whole   bool
+	leaders map[int]int
 }
 
 func newHall(t *testing.T, nodes int, kinds map[string]int) *hall {
@@ -864,19 +866,23 @@ func newHall(t *testing.T, nodes int, kinds map[string]int) *hall {
 	if code != impl.OK {
 		t.Fatal("NewWorld", code)
 	}
-	return &hall{t: t, w: w, kinds: kinds, tokens: []string{w.Clients[0].Token, w.Clients[1].Token}}
+	return &hall{t: t, w: w, kinds: kinds, tokens: []string{w.Clients[0].Token, w.Clients[1].Token}, leaders: map[int]int{}}
 }
 
 func (h *hall) act(a impl.WorldAct) int {
 	h.t.Helper()
 	was := h.w
 	next, code := impl.WorldStep(was, a)
-	wantAsModel(h.t, was, a, next, code)
-	if len(h.acts)%5 == 0 {
-		wantWorldStep(h.t, was, a)
-	}
 	h.w, h.acts = next, append(h.acts, a)
 	h.kinds[fmt.Sprintf("%d %s", a.Kind, impl.CodeWord(code))]++
+	if h.whole {
+		h.wantTheorem(was)
+		return code
+	}
+	wantAsModel(h.t, was, a, next, code)
+	if len(h.acts)%5 == 1 {
+		wantWorldStep(h.t, was, a)
+	}
 	for id, c := range next.Clients {
 		if !sameClients(c, was.Clients[id]) {
 			h.wantShown(was.Clients[id], c)

@@ -103,6 +103,9 @@ func textCalls(text string) []call {
 		{named("FrameBytes"), func() string { b, code := impl.FrameBytes(text); return fmt.Sprintf("%q %d", b, code) }},
 		{named("Hmac by"), coded(func(key string) (string, int) { return impl.Hmac(key, "message") })},
 		{named("Hmac of"), coded(func(msg string) (string, int) { return impl.Hmac("key", msg) })},
+		{named("ReadLine"), func() string { return fmt.Sprintln(impl.ReadLine(text, 7)) }},
+		{named("ReadLine of 0 of"), func() string { return fmt.Sprintln(impl.ReadLine(text, 0)) }},
+		{named("Console"), coded(impl.Console)},
 	}
 }
 
@@ -432,6 +435,9 @@ func clusterCalls(c impl.Cluster) []call {
 	for _, a := range someActs() {
 		list = append(list, call{named("ClusterStep " + actShown(a)), func() string { return fmt.Sprintln(impl.ClusterStep(c, a)) }})
 	}
+	for _, rounds := range []int{math.MinInt, -1, 0, 1, 7, 1000, 1001, math.MaxInt} {
+		list = append(list, call{named(fmt.Sprint("Settle ", rounds)), func() string { return fmt.Sprintln(impl.Settle(c, rounds)) }})
+	}
 	return list
 }
 
@@ -698,8 +704,45 @@ func allHistoryCalls(t *testing.T) []call {
 	return list
 }
 
+func lineCalls(line string) []call {
+	var list []call
+	for _, seq := range []int{math.MinInt, -1, 0, 1, 60000, 60001, math.MaxInt} {
+		list = append(list, call{fmt.Sprintf("ReadLine(%.99q, %d)", line, seq), func() string { return fmt.Sprintln(impl.ReadLine(line, seq)) }})
+	}
+	return list
+}
+
+func consoleCalls(text string) []call {
+	return []call{{fmt.Sprintf("Console(%.300q)", text), func() string { return fmt.Sprintln(impl.Console(text)) }}}
+}
+
+// someLines are of each sort, right ones, and such as are none.
+func someLines() []string {
+	list := []string{"", "go", "# x", "lead 0", "lead 3", "crash 1", "crash 9", "start 1", "show main", "window 9", "window", "split 1 up", "kill 01", "write 1 1 a b", "write 1 1\ta", "\xff", strings.Repeat(" ", impl.MaxText), strings.Repeat("x", impl.MaxText+1)}
+	for _, c := range rightCommands() {
+		list = append(list, lineOf(c))
+	}
+	return list
+}
+
+func someConsoles() []string {
+	lines := strings.Join(someLines()[:16], "\n")
+	return []string{"", "\n", lines, "lead 0\n" + lines, "lead 0\nwindow main\nsplit 1 rows\nwrite 1 1 x\nshow main\ncrash 0\nshow main\nlead 1\nkill 2\n" + lines, "crash 1\ncrash 2\nlead 0\nwindow a", strings.Repeat("\n", 60), strings.Repeat("\n", 61), strings.Repeat("x", impl.MaxText+1)}
+}
+
+func allConsoleCalls() []call {
+	var list []call
+	for _, line := range someLines() {
+		list = append(list, lineCalls(line)...)
+	}
+	for _, text := range someConsoles() {
+		list = append(list, consoleCalls(text)...)
+	}
+	return list
+}
+
 func allCalls(t *testing.T) []call {
-	list := slices.Concat(screenAndSizeCalls(t), allLayoutCalls(), allMuxCalls(t), allStoreCalls(), allNodeCalls(), allClusterCalls(t), allViewCalls(), allTokenCalls(), allClientCalls(), allWorldCalls(t), allHistoryCalls(t))
+	list := slices.Concat(screenAndSizeCalls(t), allLayoutCalls(), allMuxCalls(t), allStoreCalls(), allNodeCalls(), allClusterCalls(t), allViewCalls(), allTokenCalls(), allClientCalls(), allWorldCalls(t), allHistoryCalls(t), allConsoleCalls())
 	for _, b := range someBytes() {
 		list = append(list, bytesCalls(b)...)
 		list = append(list, textCalls(string(b))...)
@@ -1001,6 +1044,17 @@ func TestAlikeWorldsHaveAlikeAnswers(t *testing.T) {
 	wantAlike(t, worldRunCalls(nil), worldRunCalls([]impl.WorldAct{}))
 	for _, acts := range someWorldRuns() {
 		wantAlike(t, worldRunCalls(acts), worldRunCalls(append(make([]impl.WorldAct, 0, len(acts)+50), acts...)))
+	}
+}
+
+func TestAlikeLinesHaveAlikeAnswers(t *testing.T) {
+	// within is alike, but has other bytes ahead of it and behind it in its memory
+	within := func(text string) string { return ("9 " + text + "9\nkill 1")[2 : 2+len(text)] }
+	for _, line := range someLines() {
+		wantAlike(t, lineCalls(line), lineCalls(within(line)))
+	}
+	for _, text := range someConsoles() {
+		wantAlike(t, consoleCalls(text), consoleCalls(within(text)))
 	}
 }
 
